@@ -223,7 +223,13 @@ func TestP20_2Edge(t *testing.T) {
 	do(t, d, api.Call{Do: api.CallAppend, A: 1, Sheet: long(1)}, api.Reply{N: 2})
 	do(t, d, api.Call{Do: api.CallStat}, api.Reply{N: 8})
 	before := d.Copy()
+	if l := desk.Load(small, d.Shelf(), []api.Sheet{long(1), long(1)}); !desk.Same(l, d) {
+		t.Error("P20.1: Load of as much as there is room for")
+	}
 	more := append(long(1), line(1)...)
+	if desk.Load(small, d.Shelf(), []api.Sheet{long(1), more}) != nil {
+		t.Error("P20.1: Load of more than there is room for")
+	}
 	do(t, d, api.Call{Do: api.CallReplace, A: 1, B: 0, Sheet: more}, code(api.ErrSpace))
 	do(t, d, api.Call{Do: api.CallReplace, A: 1, B: 2, Sheet: more}, code(api.ErrArg))
 	do(t, d, api.Call{Do: api.CallAppend, A: 1}, code(api.ErrSpace))

@@ -26,7 +26,7 @@ func coldEverywhere(t *testing.T, r *rand.Rand, g api.Geometry, fs ...api.Fault)
 
 // TestP14_3Clearing has a page that does not change in nearly each block, and cuts just when blocks are cleared.
 func TestP14_3Clearing(t *testing.T) {
-	for seed := range int64(40) {
+	for seed := range int64(100) {
 		r := rand.New(rand.NewSource(seed))
 		g := geometries()[r.Intn(len(geometries()))]
 		logical := geom.Logical(g)

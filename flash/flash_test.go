@@ -373,6 +373,13 @@ func TestP14_4Worn(t *testing.T) {
 		want(t, "Erase", worn.Erase(5), api.OK)
 	}
 	s.c, s.kept, s.now = worn, pages{}, pages{}
+	for op := 1; op < 60; op++ {
+		s.c.Arm(api.Cut{Op: op, Fill: byte(op)})
+		if s.mount() == api.ErrOff {
+			want(t, "Boot", s.c.Boot(), api.OK)
+		}
+	}
+	s.c.Arm(api.Cut{Op: 1 << 30})
 	want(t, "P14.4: Mount", s.mount(), api.OK)
 	s.write(1, 1)
 	want(t, "P14.4: Flush", s.flush(), api.OK)

@@ -287,6 +287,40 @@ func TestP21_2Degraded(t *testing.T) {
 	}
 }
 
+// TestUnchanged renames a book beside many sheets: they are not written again.
+func TestUnchanged(t *testing.T) {
+	c := chip.New(api.Geometry{Blocks: 20, Pages: 8, Bytes: 64, Trigger: 5})
+	n := open(t, c)
+	do(t, n, api.Call{Do: api.CallBook, Name: "b"}, api.Reply{N: 1})
+	ps := []complex128{0, 1, 2, 3, 4, 5, 6, 7, 8, 9}
+	s := api.Sheet{{Width: 1, Points: ps}, {Width: 2, Points: ps}, {Width: 3, Points: ps}, {Width: 4, Points: ps}, {Width: 5, Points: ps}}
+	for i := range 12 {
+		do(t, n, api.Call{Do: api.CallNote, A: 1, Name: string(rune('a' + i))}, api.Reply{N: i + 1})
+		do(t, n, api.Call{Do: api.CallAppend, A: i + 1, Sheet: s}, api.Reply{N: 1})
+	}
+	programs := func() int {
+		before := sum(counts(c))
+		do(t, n, api.Call{Do: api.CallSync}, api.Reply{})
+		return sum(counts(c)) - before
+	}
+	if all := programs(); all < 48 {
+		t.Errorf("P21.2: a CallSync of 48 pages of sheets programs %d", all)
+	}
+	do(t, n, api.Call{Do: api.CallRename, A: 1, Name: "c"}, api.Reply{})
+	do(t, n, api.Call{Do: api.CallTurn, A: 3, By: 1i}, api.Reply{})
+	if few := programs(); few > 24 {
+		t.Errorf("P21.2: a CallSync with all sheets but one unchanged programs %d pages", few)
+	}
+}
+
+func sum(list []int) int {
+	n := 0
+	for _, x := range list {
+		n += x
+	}
+	return n
+}
+
 // TestFull fills a chip to its last page, syncs, and changes it for long.
 func TestFull(t *testing.T) {
 	for _, g := range geometries() {

@@ -209,6 +209,7 @@ func TestP17_1Changes(t *testing.T) {
 		{"Move", move(9, 2), 0, with(func(s *api.Shelf) { s.Notes[2].Book = 2 })},
 		{"Move to its own", move(9, 5), 0, sample()},
 		{"Discard", discard(4), 0, with(func(s *api.Shelf) { s.Notes = []api.Note{s.Notes[0], s.Notes[2]} })},
+		{"Discard", discard(1), 0, with(func(s *api.Shelf) { s.Notes = s.Notes[1:] })},
 		{"Discard", discard(9), 0, with(func(s *api.Shelf) { s.Notes = s.Notes[:2] })},
 	} {
 		s := sample()
