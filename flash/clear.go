@@ -82,7 +82,7 @@ func (f *Flash) those(so func(b int) bool) []bool {
 	return may
 }
 
-func (f *Flash) any(int) bool      { return true }
+func (f *Flash) every(int) bool    { return true }
 func (f *Flash) erased(b int) bool { return f.c.Used(b) == 0 }
 func (f *Flash) used(b int) bool   { return f.c.Used(b) > 0 }
 func (f *Flash) full(b int) bool   { return f.c.Used(b) == f.g.Pages }
@@ -216,7 +216,7 @@ func (f *Flash) roomBeside(v int) int {
 // level moves what does not change out of the least worn blocks, so that these are used, too.
 func (f *Flash) level() api.Errno {
 	for range f.g.Blocks {
-		cold := victim.Cold(f.lives(), f.wears(), f.those(f.any), f.g.Trigger)
+		cold := victim.Cold(f.lives(), f.wears(), f.those(f.every), f.g.Trigger)
 		if cold < 0 {
 			return api.OK
 		}
@@ -231,11 +231,11 @@ func (f *Flash) level() api.Errno {
 func (f *Flash) even() api.Errno {
 	limit := f.g.Trigger + geom.Slack(f.g) + f.c.Cuts()
 	end := f.c.Ops() + geom.Bound(f.g)/2
-	for f.c.Ops() < end && wear.Spread(f.wears(), f.those(f.any)) > limit {
+	for f.c.Ops() < end && wear.Spread(f.wears(), f.those(f.every)) > limit {
 		if e := f.restore(); e != api.OK {
 			return e
 		}
-		if e := f.clear(wear.Least(f.wears(), f.those(f.any)), f.tired); e != api.OK {
+		if e := f.clear(wear.Least(f.wears(), f.those(f.every)), f.tired); e != api.OK {
 			return e
 		}
 	}
