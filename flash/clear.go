@@ -112,9 +112,9 @@ func (f *Flash) rested() int {
 	return victim.Free(f.wears(), f.those(f.erased))
 }
 
-// reserve tells whether more blocks are erased than must stay so: one to move
-// the next victim's records to, and one for each block that may yet fail while
-// it is being filled.
+// reserve tells whether so many more blocks are erased than must stay so: one
+// to move the next victim's records to, and one for each block that may yet
+// fail while it is being filled.
 func (f *Flash) reserve(more int) bool {
 	n := 0
 	for _, is := range f.those(f.erased) {
